@@ -2,8 +2,34 @@ package engine
 
 import (
 	"brocade/api"
+	"brocade/deep"
 	"brocade/value"
 )
+
+// Run executes valid statements on a copy of a memory that must provide all buffers. The
+// function order, if it is not nil, gives the values that a loop takes.
+func Run(bufs []api.Buffer, l []api.Stmt, mem []api.Named, env []api.Binding, fuel int, order func(loop api.Stmt) []int) ([]api.Named, int, api.Errno) {
+	if fuel < 0 || fuel > api.MaxSteps {
+		return nil, 0, api.ErrArg
+	}
+	given := New(mem, nil)
+	s := New(nil, env)
+	var final []api.Named
+	for _, b := range bufs {
+		if err := given.Provided(b.Name, b.Type, b.Dims); err != api.OK {
+			return nil, 0, err
+		}
+		t, _ := given.Tensor(b.Name)
+		own := deep.Named(api.Named{Name: b.Name, Tensor: t})
+		s.Define(b.Name, own.Tensor)
+		final = append(final, own)
+	}
+	x := Exec{Scope: s, Fuel: fuel, Order: order}
+	if err := x.Stmts(l); err != api.OK {
+		return nil, 0, err
+	}
+	return final, x.Steps, api.OK
+}
 
 // Exec executes the statements of a valid nest in a scope whose tensors it changes.
 type Exec struct {
