@@ -67,6 +67,15 @@ func TestWrapAround(t *testing.T) {
 	}
 }
 
+// TestFarTargets jumps to positions that no register has as its number.
+func TestFarTargets(t *testing.T) {
+	text := "const r1 1; test lt 999 r1 r0 frac; halt" + strings.Repeat("; halt", 996) + "; int x0 5; halt"
+	m := machine(t, 0, text)
+	if many, err := m.Run(9); many != 4 || err != api.OK || m.IntRegisters()[0] != 5 {
+		t.Error(many, err)
+	}
+}
+
 func TestSteps(t *testing.T) {
 	m := machine(t, 2, "int x0 3; load r0 x0 0 2; halt")
 	if more, err := m.Step(); !more || err != api.OK || m.PC() != 1 || m.IntRegisters()[0] != 3 {
