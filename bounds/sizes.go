@@ -6,6 +6,7 @@ import (
 	"brocade/api"
 	"brocade/box"
 	"brocade/constraint"
+	"brocade/engine"
 	"brocade/lin"
 	"brocade/program"
 )
@@ -15,7 +16,7 @@ func CheckSizes(p api.Prog, sizes []api.Binding) (int, api.Errno) {
 	if at, err := program.Validate(p); err != api.OK {
 		return at, err
 	}
-	if err := checkBindings(p, sizes); err != api.OK {
+	if err := engine.CheckSizes(p, sizes); err != api.OK {
 		return 0, err
 	}
 	for i, o := range obligations(p) {
@@ -24,28 +25,6 @@ func CheckSizes(p api.Prog, sizes []api.Binding) (int, api.Errno) {
 		}
 	}
 	return 0, api.OK
-}
-
-func checkBindings(p api.Prog, sizes []api.Binding) api.Errno {
-	if len(sizes) != len(p.Sizes) {
-		return api.ErrSize
-	}
-	for _, n := range p.Sizes {
-		at := slices.IndexFunc(sizes, func(b api.Binding) bool { return b.Name == n })
-		if at < 0 || sizes[at].Val < 1 || sizes[at].Val > api.MaxSize {
-			return api.ErrSize
-		}
-	}
-	for _, c := range p.Where {
-		holds, err := constraint.Holds(c, sizes)
-		if err != api.OK {
-			return err
-		}
-		if !holds {
-			return api.ErrConstraint
-		}
-	}
-	return api.OK
 }
 
 // check evaluates an obligation at all points of its definition.

@@ -1,13 +1,39 @@
 package engine
 
 import (
+	"slices"
+
 	"brocade/api"
 	"brocade/box"
+	"brocade/constraint"
 	"brocade/expr"
 	"brocade/lin"
 	"brocade/program"
 	"brocade/shape"
 )
+
+// CheckSizes checks the values of the sizes of a program.
+func CheckSizes(p api.Prog, sizes []api.Binding) api.Errno {
+	if len(sizes) != len(p.Sizes) {
+		return api.ErrSize
+	}
+	for _, n := range p.Sizes {
+		at := slices.IndexFunc(sizes, func(b api.Binding) bool { return b.Name == n })
+		if at < 0 || sizes[at].Val < 1 || sizes[at].Val > api.MaxSize {
+			return api.ErrSize
+		}
+	}
+	for _, c := range p.Where {
+		holds, err := constraint.Holds(c, sizes)
+		if err != api.OK {
+			return err
+		}
+		if !holds {
+			return api.ErrConstraint
+		}
+	}
+	return api.OK
+}
 
 // Extents evaluates the sizes of axes.
 func Extents(forms []api.Lin, sizes []api.Binding) ([]int, api.Errno) {
