@@ -30,7 +30,7 @@ func TestCost(t *testing.T) {
 		want api.Cost
 		err  api.Errno
 	}{
-		{bufs + "for i < 3 { s[] sum= a[i] * a[i] }", api.Cost{Loops: 3, Reads: 9, Writes: 3, Ops: 6, Words: 1}, 0}, {bufs, api.Cost{Words: 1}, 0}, {bufs + "s[] = frac(1)", api.Cost{Writes: 1, Words: 1}, 0}, {"a: frac[3] in; t: int[2] temp; c: frac[2, 2] out; for i < 2 parallel { for j < 5 vector { if !(a[0] < a[t[0]]) & [i] <= [1] | int(1) == t[1] { c[t[i], t[1]] = if(a[0] < a[1], -a[0], cast(frac, [i])); c[0, t[0]] max= min(a[t[0]], a[1]) } } }", api.Cost{Loops: 12, Reads: 10 * (3 + 1 + 2 + 3 + 5), Writes: 20, Ops: 10 * (3 + 3 + 2), Words: 6}, 0}, {bufs + "s[] = q[]", api.Cost{}, api.ErrNotFound},
+		{bufs + "for i < 3 { s[] sum= a[i] * a[i] }", api.Cost{Loops: 3, Reads: 9, Writes: 3, Ops: 6, Words: 1}, 0}, {bufs, api.Cost{Words: 1}, 0}, {bufs + "for i < 3 { s[] sum= a[i] }; for j < 2 { s[] sum= a[j] }", api.Cost{Loops: 5, Reads: 10, Writes: 5, Ops: 5, Words: 1}, 0}, {bufs + "s[] = frac(1)", api.Cost{Writes: 1, Words: 1}, 0}, {"a: frac[3] in; t: int[2] temp; c: frac[2, 2] out; for i < 2 parallel { for j < 5 vector { if !(a[0] < a[t[0]]) & [i] <= [1] | int(1) == t[1] { c[t[i], t[1]] = if(a[0] < a[1], -a[0], cast(frac, [i])); c[0, t[0]] max= min(a[t[0]], a[1]) } } }", api.Cost{Loops: 12, Reads: 10 * (3 + 1 + 2 + 3 + 5), Writes: 20, Ops: 10 * (3 + 3 + 2), Words: 6}, 0}, {bufs + "s[] = q[]", api.Cost{}, api.ErrNotFound},
 		{bufs + strings.Repeat("for X < 65536 { ", 9) + "s[] sum= a[0]" + strings.Repeat(" }", 9), api.Cost{Loops: 1 << 40, Reads: 1 << 40, Writes: 1 << 40, Ops: 1 << 40, Words: 1}, 0}, {bufs + strings.Repeat("for X < 32 { ", 8) + "s[] = a[0]" + strings.Repeat(" }", 8), api.Cost{Loops: 1 << 40, Reads: 1 << 40, Writes: 1 << 40, Words: 1}, 0}, {bufs + strings.Repeat("for X < 16 { ", 9) + "s[] = a[0]" + strings.Repeat(" }", 9), api.Cost{Loops: 73300775184, Reads: 1 << 36, Writes: 1 << 36, Words: 1}, 0},
 	} {
 		for _, v := range "bcdefghij" {
@@ -57,7 +57,7 @@ func TestLess(t *testing.T) {
 	for _, x := range []struct {
 		a, b api.Cost
 		want bool
-	}{{c(3, 0, 0, 0, 9), c(0, 0, 0, 1, 0), true}, {c(4, 0, 0, 0, 0), c(0, 0, 0, 1, 0), false}, {c(4, 0, 0, 0, 0), c(0, 0, 0, 1, 1), true}, {c(1, 0, 0, 0, 0), c(0, 1, 0, 0, 0), true}, {c(2, 0, 0, 0, 0), c(0, 0, 1, 0, 1), true}, {c(0, 3, 0, 0, 0), c(0, 1, 1, 1, 0), true}, {c(0, 0, 0, 0, 5), c(0, 0, 0, 0, 5), false}, {c(math.MaxInt, 0, 0, 0, 0), c(1<<40, 0, 0, 0, 0), false}, {c(1<<40, 0, 0, 0, 0), c(math.MaxInt, 0, 0, 0, 0), false}, {c(math.MinInt, math.MinInt, math.MinInt, math.MinInt, 0), c(0, 0, 0, 0, 0), true}, {c(0, 0, 0, 0, math.MinInt), c(0, 0, 0, 0, -1<<40), false}, {c(0, 0, 0, 0, -1<<40), c(0, 0, 0, 0, -1<<40+1), true}} {
+	}{{c(3, 0, 0, 0, 9), c(0, 0, 0, 1, 0), true}, {c(2, 0, 0, 0, 0), c(0, 1, 0, 0, 0), false}, {c(2, 0, 0, 0, 0), c(0, 1, 0, 0, 1), true}, {c(0, 1, 0, 0, 0), c(0, 0, 1, 0, 0), false}, {c(0, 1, 0, 0, 0), c(0, 0, 1, 0, 1), true}, {c(0, 0, 1, 0, 0), c(0, 1, 0, 0, 1), true}, {c(0, 0, 2, 0, 0), c(0, 0, 0, 1, 0), false}, {c(4, 0, 0, 0, 0), c(0, 0, 0, 1, 0), false}, {c(4, 0, 0, 0, 0), c(0, 0, 0, 1, 1), true}, {c(1, 0, 0, 0, 0), c(0, 1, 0, 0, 0), true}, {c(2, 0, 0, 0, 0), c(0, 0, 1, 0, 1), true}, {c(0, 3, 0, 0, 0), c(0, 1, 1, 1, 0), true}, {c(0, 0, 0, 0, 5), c(0, 0, 0, 0, 5), false}, {c(math.MaxInt, 0, 0, 0, 0), c(1<<40, 0, 0, 0, 0), false}, {c(1<<40, 0, 0, 0, 0), c(math.MaxInt, 0, 0, 0, 0), false}, {c(math.MinInt, math.MinInt, math.MinInt, math.MinInt, 0), c(0, 0, 0, 0, 0), true}, {c(0, 0, 0, 0, math.MinInt), c(0, 0, 0, 0, -1<<40), false}, {c(0, 0, 0, 0, -1<<40), c(0, 0, 0, 0, -1<<40+1), true}} {
 		if got := autotune.Less(x.a, x.b); got != x.want || got && autotune.Less(x.b, x.a) {
 			t.Errorf("Less(%v, %v) = %v", x.a, x.b, got)
 		}
@@ -119,6 +119,9 @@ func TestSearch(t *testing.T) {
 		}
 	}
 	if l, m, err := autotune.Search(n, 0, 8); len(l) != 0 || !loopnest.Same(m, n) || err != api.OK {
+		t.Error(l, err)
+	}
+	if l, _, err := autotune.Search(n, 8, 8); schedule.Format(l) != "unroll i\n" || err != api.OK {
 		t.Error(l, err)
 	}
 }

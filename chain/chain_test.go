@@ -108,6 +108,9 @@ func TestErrors(t *testing.T) {
 	if _, _, err := chain.Grad(rigid, nil, good, good, 1, 0); err != api.ErrGradient {
 		t.Error(err)
 	}
+	if g, c, err := chain.Grad(p, bind(2), good, good, 9, 0); !isZero(g) || c != 0 || err == api.OK {
+		t.Error(g, c, err)
+	}
 }
 
 func TestExample(t *testing.T) {

@@ -156,6 +156,31 @@ func itoa(n int) string {
 	return string(rune('0'+n/10)) + string(rune('0'+n%10))
 }
 
+// TestManyTypes compiles nests of 256 and of 257 types.
+func TestManyTypes(t *testing.T) {
+	var b strings.Builder
+	b.WriteString("c: int[] out; ")
+	types := 1
+	for bits := 20; types < 256; bits++ {
+		for f := range 19 {
+			for _, how := range []string{"floor", "ceil"} {
+				if types < 256 {
+					b.WriteString("c[] = cast(int, fix(" + itoa(bits) + ", " + itoa(f) + ", " + how + ", sat)(0)); ")
+					types++
+				}
+			}
+		}
+	}
+	n := parse(t, b.String()+"c[] = int(1)")
+	if u, err := codegen.Compile(n); err != api.OK || len(u.Types) != 256 || len(codegen.Types(n)) != 256 {
+		t.Error(len(u.Types), err)
+	}
+	n = parse(t, b.String()+"c[] = cast(int, frac(1))")
+	if u, err := codegen.Compile(n); err != api.ErrLimit || len(u.Types) != 0 || len(codegen.Types(n)) != 257 {
+		t.Error(len(u.Types), err)
+	}
+}
+
 // TestLimit finds the greatest program that fits.
 func TestLimit(t *testing.T) {
 	for many := 1; ; many *= 2 {

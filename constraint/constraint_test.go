@@ -143,7 +143,7 @@ func TestNormalize(t *testing.T) {
 		{[]api.Constraint{ge(1), eq(0)}, nil, true, 0}, {nil, nil, true, 0},
 		{[]api.Constraint{ge(0, "j", 1), ge(-1)}, nil, false, 0}, {[]api.Constraint{eq(1, "i", 2)}, nil, false, 0},
 		{[]api.Constraint{eq(1, "i", 1), eq(2, "i", 1)}, nil, false, 0}, {[]api.Constraint{eq(1, "i", -1), eq(-1, "i", 1)}, []api.Constraint{eq(-1, "i", 1)}, true, 0},
-		{[]api.Constraint{eq(-3, "i", 1), ge(-4, "i", 1)}, nil, false, 0}, {[]api.Constraint{ge(-2, "i", 1), eq(-3, "i", 1)}, []api.Constraint{eq(-3, "i", 1)}, true, 0}, {[]api.Constraint{ge(-3, "i", 1), eq(-3, "i", 1)}, []api.Constraint{eq(-3, "i", 1)}, true, 0},
+		{[]api.Constraint{eq(-3, "i", 1), ge(-4, "i", 1)}, nil, false, 0}, {[]api.Constraint{ge(-1, "i", 1), eq(-1, "j", 1), eq(-3, "i", 1)}, []api.Constraint{eq(-3, "i", 1), eq(-1, "j", 1)}, true, 0}, {[]api.Constraint{ge(-2, "i", 1), eq(-3, "i", 1)}, []api.Constraint{eq(-3, "i", 1)}, true, 0}, {[]api.Constraint{ge(-3, "i", 1), eq(-3, "i", 1)}, []api.Constraint{eq(-3, "i", 1)}, true, 0},
 		{[]api.Constraint{ge(0, "j", 1), ge(3, "i", 2, "j", 2), ge(0, "i", -1), ge(5, "i", 1)}, []api.Constraint{ge(0, "i", -1), ge(5, "i", 1), ge(1, "i", 1, "j", 1), ge(0, "j", 1)}, true, 0},
 		{[]api.Constraint{ge(0, "i", 1), ge(-1, "i", -1)}, []api.Constraint{ge(-1, "i", -1), ge(0, "i", 1)}, true, 0},
 		{[]api.Constraint{ge(-1), eq(least, "i", -1)}, nil, false, api.ErrRange},

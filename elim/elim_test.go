@@ -40,8 +40,8 @@ func TestCombine(t *testing.T) {
 		{ge(-3, "i", 2), ge(0, "i", -3, "j", 1), ge(-9, "j", 2), "i", 0},
 		{ge(-3, "i", 4), ge(1, "i", -6), ge(-7), "i", 0},
 		{ge(0, "i", 1), ge(5, "i", -1, "j", 1), ge(5, "j", 1), "i", 0},
-		{bad, ge(0, "i", -1), api.Constraint{}, "i", api.ErrArg}, {ge(0, "i", 1), bad, api.Constraint{}, "i", api.ErrArg},
-		{ge(0, "i", 1), ge(0, "i", -1), api.Constraint{}, "", api.ErrArg}, {ge(0, "i", 1), ge(0, "i", -1), api.Constraint{}, "sum", api.ErrArg}, {ge(0, "i", 1), ge(0, "i", -1), api.Constraint{}, "j", api.ErrArg},
+		{bad, ge(0, "i", -1), api.Constraint{}, "i", api.ErrArg}, {ge(0, "i", 1, "a", 1), ge(0, "i", -1), api.Constraint{}, "i", api.ErrArg}, {ge(0, "i", 1), ge(0, "i", -1, "a", 1), api.Constraint{}, "i", api.ErrArg}, {ge(0, "i", 1), bad, api.Constraint{}, "i", api.ErrArg},
+		{ge(0, "i", 1), ge(0, "i", -1), api.Constraint{}, "", api.ErrArg}, {ge(0, "i", 1), ge(0, "i", -1), api.Constraint{}, "sum", api.ErrArg}, {ge(0, "i", 1), ge(0, "i", -1), api.Constraint{}, "j", api.ErrArg}, {ge(0, "i", 1), ge(0, "j", -1), api.Constraint{}, "i", api.ErrArg}, {ge(0, "j", 1), ge(0, "i", -1), api.Constraint{}, "i", api.ErrArg},
 		{eq(0, "i", 1), ge(0, "i", -1), api.Constraint{}, "i", api.ErrArg}, {ge(0, "i", 1), eq(0, "i", -1), api.Constraint{}, "i", api.ErrArg},
 		{ge(0, "i", -1), ge(0, "i", -1), api.Constraint{}, "i", api.ErrArg}, {ge(0, "i", 1), ge(0, "i", 1), api.Constraint{}, "i", api.ErrArg}, {ge(0, "i", -1), ge(0, "i", 1), api.Constraint{}, "i", api.ErrArg},
 		{ge(0, "i", 1), ge(0, "i", least), api.Constraint{}, "i", api.ErrRange}, {ge(1, "i", 2), ge(3, "i", least), api.Constraint{}, "i", api.ErrRange}, {ge(1, "i", 1<<61), ge(3, "i", -1<<62), ge(5), "i", 0}, {ge(most, "i", 1), ge(0, "i", -2), api.Constraint{}, "i", api.ErrRange},
@@ -241,6 +241,42 @@ func TestInfeasible(t *testing.T) {
 	}
 	if found < 500 {
 		t.Errorf("only %d systems had no solution", found)
+	}
+}
+
+// TestGivingUp draws systems with great numbers and little fuel: an answer is right, or
+// there is none (7.4).
+func TestGivingUp(t *testing.T) {
+	seed := uint64(11)
+	next := func(n int64) int64 {
+		seed = seed*6364136223846793005 + 1442695040888963407
+		return int64(seed>>1) % n
+	}
+	names := []string{"i", "j", "k"}
+	seen := map[api.Errno]int{}
+	for round := range 4000 {
+		size := int64(1) << (3 + 2*(round%30))
+		var l []api.Constraint
+		for range 2 + next(6) {
+			c := api.Constraint{Lin: api.Lin{K: next(size) - size/2}, Eq: next(6) == 0}
+			for _, n := range names {
+				if by := next(size) - size/2; by != 0 && next(4) != 0 {
+					c.Lin.L = append(c.Lin.L, api.Mono{Name: n, By: by})
+				}
+			}
+			l = append(l, c)
+		}
+		by, infeasible, err := elim.Infeasible(l, int(next(12)))
+		seen[err]++
+		switch {
+		case err == api.OK && infeasible == feasible(l, names), infeasible && elim.CheckCertificate(l, by) != api.OK, infeasible && err != api.OK, !infeasible && len(by) != 0:
+			t.Fatalf("Infeasible(%v) = %v, %v, %v", l, by, infeasible, err)
+		case err != api.OK && err != api.ErrFuel && err != api.ErrRange:
+			t.Fatalf("Infeasible(%v): %v", l, err)
+		}
+	}
+	if seen[api.OK] < 500 || seen[api.ErrFuel] < 100 || seen[api.ErrRange] < 100 {
+		t.Error(seen)
 	}
 }
 

@@ -129,7 +129,7 @@ func TestInRange(t *testing.T) {
 		err     api.Errno
 	}{
 		{l, form(0, "i", 1), form(0, "n", 1), full, true, 0}, {l, form(1, "i", 1), form(0, "n", 1), full, false, 0}, {l, form(-1, "i", 1), form(0, "n", 1), full, false, 0}, {l, form(1, "i", 1), form(1, "n", 1), full, true, 0}, {nil, form(0), form(1), full, true, 0}, {nil, form(0), form(0), full, false, 0}, {nil, form(-1), form(9), full, false, 0},
-		{list(bad), form(0), form(1), full, false, api.ErrArg}, {l, form(0, "if", 1), form(1), full, false, api.ErrArg}, {l, form(0), form(0, "j", 0), full, false, api.ErrArg}, {l, form(0), form(1), full + 1, false, api.ErrArg},
+		{list(bad), form(0), form(1), full, false, api.ErrArg}, {l, form(0, "if", 1), form(1), full, false, api.ErrArg}, {l, form(0), form(0, "j", 0), full, false, api.ErrArg}, {l, form(-1), form(0, "j", 0), full, false, api.ErrArg}, {l, form(0), form(1), full + 1, false, api.ErrArg},
 		// The second form is only computed if the first proof succeeds.
 		{l, form(-1), form(least), full, false, 0}, {l, form(0), form(least), full, false, api.ErrRange}, {l, form(5), form(least + 3), full, false, api.ErrRange}, {l, form(0, "i", least), form(1), full, false, api.ErrRange},
 	} {

@@ -112,7 +112,7 @@ func TestErrors(t *testing.T) {
 		ins   []api.Named
 		fuel  int
 		err   api.Errno
-	}{{parse(t, bufs+"o[0] = q[]"), nil, -1, nil, -1, api.ErrNotFound}, {n, nil, -1, nil, -1, api.ErrNotFound}, {n, nil, api.MaxSteps + 1, input(), -1, api.ErrArg}, {n, nil, api.MaxSteps + 1, input(), api.MaxSteps + 1, api.ErrArg}, {n, nil, api.MaxSteps + 1, input(), 1, api.ErrLimit}, {n, nil, 9, input(), 1, api.ErrSize}, {n, short, size, input(), 1, api.ErrArg}, {n, slots, size - 1, input(), 1, api.ErrNoSpace}, {n, slots, math.MinInt, input(), 1, api.ErrNoSpace}, {n, slots, size, input(), 1, 0}, {api.Nest{}, nil, -5, nil, 1, 0}, {n, slots, api.MaxSteps, input(), 1, 0}} {
+	}{{parse(t, bufs+"o[0] = q[]"), nil, -1, nil, -1, api.ErrNotFound}, {n, nil, -1, nil, -1, api.ErrNotFound}, {n, nil, api.MaxSteps + 1, input(), -1, api.ErrArg}, {n, nil, api.MaxSteps + 1, input(), api.MaxSteps + 1, api.ErrArg}, {n, nil, api.MaxSteps + 1, input(), 1, api.ErrLimit}, {n, nil, 9, input(), 1, api.ErrSize}, {n, short, size, input(), 1, api.ErrArg}, {n, slots, size - 1, input(), 1, api.ErrNoSpace}, {n, slots, math.MinInt, input(), 1, api.ErrNoSpace}, {n, slots, size, input(), 1, 0}, {n, slots, size, input(), api.MaxSteps, 0}, {api.Nest{}, nil, -5, nil, 1, 0}, {n, slots, api.MaxSteps, input(), 1, 0}} {
 		if got, steps, err := flatmem.Run(x.n, x.slots, x.size, x.ins, x.fuel); err != x.err || steps != 0 || err != api.OK && len(got) != 0 {
 			t.Errorf("case %d: %v, %v; want %v", k, got, err, x.err)
 		}

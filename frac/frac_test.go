@@ -180,6 +180,10 @@ func TestSum(t *testing.T) {
 	if got, err := frac.Sum(v(top, 1), v(top, 1), v(-top, 1)); got != v(top, 1) || err != api.OK {
 		t.Error(got, err)
 	}
+	// The square of a prime is no denominator of the sum.
+	if got, err := frac.Sum(v(1, 46337*46337), v(46336, 46337*46337), v(1, 46327)); got != v(46337+46327, 46337*46327) || err != api.OK {
+		t.Error(got, err)
+	}
 	if got, err := frac.Sum(v(-top, 1), v(-top, 1), v(1, 2147483629), v(top, 1), v(-1, 2147483629)); got != v(-top, 1) || err != api.OK {
 		t.Error(got, err)
 	}

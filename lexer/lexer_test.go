@@ -19,7 +19,7 @@ func TestTokenize(t *testing.T) {
 	}{
 		{"", nil}, {" \t\r\n", nil}, {"# only a comment", nil}, {"#\n#\n", nil},
 		{"a[i+1]<=03 # end", []api.Token{tok(n, 0, "a"), tok(s, 1, "["), tok(n, 2, "i"), tok(s, 3, "+"), tok(d, 4, "1"), tok(s, 5, "]"), tok(s, 6, "<="), tok(d, 8, "03")}},
-		{"1a", []api.Token{tok(d, 0, "1"), tok(n, 1, "a")}}, {"sum size", []api.Token{tok(n, 0, "sum"), tok(n, 4, "size")}}, {"a_9b#x\ny", []api.Token{tok(n, 0, "a_9b"), tok(n, 7, "y")}},
+		{"1a", []api.Token{tok(d, 0, "1"), tok(n, 1, "a")}}, {"z9 9 190z", []api.Token{tok(n, 0, "z9"), tok(d, 3, "9"), tok(d, 5, "190"), tok(n, 8, "z")}}, {"sum size", []api.Token{tok(n, 0, "sum"), tok(n, 4, "size")}}, {"a_9b#x\ny", []api.Token{tok(n, 0, "a_9b"), tok(n, 7, "y")}},
 		{"<==", []api.Token{tok(s, 0, "<="), tok(s, 2, "=")}}, {"===", []api.Token{tok(s, 0, "=="), tok(s, 2, "=")}}, {"=<", []api.Token{tok(s, 0, "="), tok(s, 1, "<")}}, {"< =", []api.Token{tok(s, 0, "<"), tok(s, 2, "=")}}, {"!=", []api.Token{tok(s, 0, "!"), tok(s, 1, "=")}},
 		{"abcdefghijklmnop", []api.Token{tok(n, 0, "abcdefghijklmnop")}}, {strings.Repeat("7", 40), []api.Token{tok(d, 0, strings.Repeat("7", 40))}}, {"a\r\nb\tc", []api.Token{tok(n, 0, "a"), tok(n, 3, "b"), tok(n, 5, "c")}},
 	} {

@@ -66,6 +66,17 @@ func TestProg(t *testing.T) {
 	if flat(n) != want || err != api.OK {
 		t.Error(flat(n), err)
 	}
+	sized := parse(t, "size n, m; in a: frac[n]; in b: frac[m]; def c: frac[i < n] = a[i]; def d: frac[i < m] = b[i]; out c, d;")
+	n, err = lower.Prog(sized, bind(1, 4096))
+	want = "a: frac[1] in b: frac[4096] in c: frac[1] out d: frac[4096] out for c_i < 1 { c[c_i] = a[c_i] } for d_i < 4096 { d[d_i] = b[d_i] }"
+	if flat(n) != want || err != api.OK {
+		t.Error(flat(n), err)
+	}
+	for _, sizes := range [][2]int64{{0, 1}, {1, 4097}} {
+		if _, err := lower.Prog(sized, bind(sizes[0], sizes[1])); err != api.ErrSize {
+			t.Error(sizes, err)
+		}
+	}
 	for _, x := range []struct {
 		s    string
 		n, m int64

@@ -72,7 +72,17 @@ func ins() []api.Named {
 }
 
 func TestOptimize(t *testing.T) {
-	for _, s := range []string{whole, head + "def s: frac[] = a[0]; out s;", head + "out a;", ""} {
+	for _, s := range []string{whole, head + "def s: frac[] = a[0]; out s;", head + "out a;", "",
+		head + "def u: frac[i < n] = a[i] + c[i]; def v: frac[j < n] = a[j] + c[j]; def s: frac[] = u[0] - v[0]; out s;",
+		head + "def u: frac[i < n] = a[i] + c[i]; def v: frac[j < n] = a[j] + c[j]; def s: frac[i < n] = if(u[i] < v[i], a[i], c[i]); out s;",
+		head + "def u: frac[i < n] = a[i]; def w: frac[i < n] = a[i]; def x: frac[i < n] = u[i] + c[i]; def y: frac[i < n] = w[i] + c[i]; def s: frac[i < n] = x[i] * y[i]; out s;",
+		head + "def u: frac[] = a[0] * frac(1); out u;", head + "def u: frac[] = a[0] * frac(1); def dead: frac[] = c[0]; out u;",
+		head + "def w: frac[i < n] = sum k < n: if([k] == [i], a[k] * c[k], frac(0)); def v: frac[i < n] = a[i] * c[i]; def s: frac[i < n] = w[i] - v[i]; out s;",
+		head + "def w: frac[i < n] = sum k < n: if([k] == [i], a[k] - a[i], frac(0)); def u: frac[] = a[0] * frac(1); out u, w;",
+		head + "def w: frac[i < n] = sum k < n: if([k] == [i], a[k] - a[i], frac(0)); def x: frac[i < n] = a[i] + c[0]; def y: frac[j < n] = a[j] + c[0]; def s: frac[i < n] = x[i] * y[0]; out w, s;",
+		head + "def w: frac[i < n] = sum k < n: if([k] == [i], a[k] - a[i], frac(0)); def x: frac[i < n] = a[i] + c[0]; def y: frac[j < n] = a[j] + c[0]; def s: frac[i < n] = x[i] * y[0]; def dead: frac[] = c[1]; out w, s;",
+		head + "def w: frac[i < n] = sum k < n: if([k] == [i], a[k] - a[i], frac(0)); def dead: frac[] = c[1]; out w;",
+	} {
 		p := parse(t, s)
 		// The definition, step by step.
 		want, total := p, 0

@@ -125,4 +125,8 @@ func TestSkew(t *testing.T) {
 		got, err := reorder.Skew(n, x.outer, x.by, x.name)
 		check(t, "Skew", n, got, err, x.want, x.err)
 	}
+	n, err := reorder.Skew(parse(t, bufs+"for i < 1024 { for j < 64 { } }"), "i", 64, "k")
+	if want := "for i < 1024 { for k < 65536 { if [0] <= [-64*i + k] & [-64*i + k] < [64] { } } }"; flat(n) != want || err != api.OK {
+		t.Error(flat(n), err)
+	}
 }

@@ -51,7 +51,7 @@ func TestParseErrors(t *testing.T) {
 		{"show p", 0, api.ErrEOF}, {"show p\nshow", 1, api.ErrEOF}, {"program p\n", 1, api.ErrEOF}, {"program p\nx\n", 2, api.ErrEOF}, {"program p\nx", 1, api.ErrEOF}, {"program p\nend", 1, api.ErrEOF}, {"program p\nend\nend\n", 2, api.ErrSyntax}, {"show\n", 0, api.ErrSyntax}, {"show p q\n", 0, api.ErrSyntax}, {"show P\n", 0, api.ErrSyntax}, {"show p \n", 0, api.ErrSyntax}, {"show  p\n", 0, api.ErrSyntax}, {" show p\n", 0, api.ErrSyntax}, {"\n", 0, api.ErrSyntax}, {"show p\n\n", 1, api.ErrSyntax}, {"Show p\n", 0, api.ErrSyntax}, {"program p q\nend\n", 0, api.ErrSyntax}, {"program sum\nend\n", 0, api.ErrSyntax},
 		{"grad g p\n", 0, api.ErrSyntax}, {"grad g p X\n", 0, api.ErrSyntax}, {"tangent g\n", 0, api.ErrSyntax}, {"tangent g p \n", 0, api.ErrSyntax}, {"data a 2\n", 0, api.ErrSyntax}, {"data a 02 = 1\n", 0, api.ErrSyntax}, {"data a x = 1\n", 0, api.ErrSyntax}, {"data a 2 = x\n", 0, api.ErrSyntax}, {"data a 2 = 1 = 2\n", 0, api.ErrSyntax}, {"data a 2 =\n", 1, 0}, {"data a 2 = \n", 0, api.ErrSyntax}, {"data a 2147483648 = 1\n", 0, api.ErrRange}, {"data a -1 = 1\n", 0, api.ErrRange}, {"data a -0 = 1\n", 0, api.ErrSyntax}, {"data a 99999999999999999999999 = 1\n", 0, api.ErrRange}, {"data a 2147483648 = x\n", 0, api.ErrSyntax}, {"data a 2147483648 x = 1\n", 0, api.ErrSyntax}, {"data A 2147483648 = 1\n", 0, api.ErrSyntax},
 		{"run p with\n", 0, api.ErrSyntax}, {"run p with S\n", 0, api.ErrSyntax}, {"run p s n=1\n", 0, api.ErrSyntax}, {"run p n=\n", 0, api.ErrSyntax}, {"run p n\n", 0, api.ErrSyntax}, {"run p n=1=2\n", 0, api.ErrSyntax}, {"run p N=1\n", 0, api.ErrSyntax}, {"run p n=01\n", 0, api.ErrSyntax}, {"run p n=+1\n", 0, api.ErrSyntax}, {"run p n=2147483648\n", 0, api.ErrRange}, {"run p n=-1\n", 0, api.ErrRange}, {"run p n=-1 N=1\n", 0, api.ErrSyntax}, {"run p n=1 with s\n", 0, api.ErrSyntax}, {"check p with s\n", 0, api.ErrSyntax}, {"check p n=2147483648\n", 0, api.ErrRange}, {"show p\nrun p n=-1\nshow\n", 1, api.ErrRange},
-		{strings.Repeat("show p\n", 256), 256, 0}, {strings.Repeat("show p\n", 257), 256, api.ErrLimit}, {strings.Repeat("program p\n\nend\n", 256) + "x", 768, api.ErrLimit}, {strings.Repeat(" ", 65537), 0, api.ErrLimit}, {"", 0, 0},
+		{strings.Repeat("show p\n", 256), 256, 0}, {strings.Repeat("show p\n", 257), 256, api.ErrLimit}, {strings.Repeat("program p\n\nend\n", 256) + "x", 768, api.ErrLimit}, {strings.Repeat(" ", 65537), 0, api.ErrLimit}, {strings.Repeat(" ", 65536), 0, api.ErrEOF}, {"", 0, 0},
 	} {
 		got, at, err := script.Parse(x.s)
 		if at != x.at || err != x.err || err != api.OK && len(got) != 0 || err == api.OK && script.Format(got) != x.s {
@@ -146,6 +146,12 @@ func TestRun(t *testing.T) {
 	}
 	if out, failed, err := script.RunItems(nil); out != "" || failed != 0 || err != api.OK {
 		t.Error(out, failed, err)
+	}
+	show := script.Item{Op: 7, Name: "p"}
+	for at, l := range [][]script.Item{{{Op: 9, Name: "p"}}, {show, {Op: 7}, {}}, {show, show, {}}} {
+		if out, first, err := script.RunItems(l); out != "" || first != at || err != api.ErrSyntax {
+			t.Errorf("item %d is invalid, but: %q, %d, %v", at, out, first, err)
+		}
 	}
 	if out, failed, err := script.RunItems(make([]script.Item, 257)); out != "" || failed != 0 || err != api.ErrLimit {
 		t.Error(out, failed, err)
