@@ -2,6 +2,7 @@ package box_test
 
 import (
 	"math"
+	"math/big"
 	"slices"
 	"testing"
 
@@ -175,5 +176,55 @@ func TestRange(t *testing.T) {
 				t.Errorf("Range(%v) = %d, %d, %v; want %d, %d", f, l, h, err, low, high)
 			}
 		}
+	}
+}
+
+// exactRange computes P9.5 with integers of any size.
+func exactRange(f api.Lin, names []string, ext []int) (int64, int64, api.Errno) {
+	low, high := big.NewInt(f.K), big.NewInt(f.K)
+	for _, m := range f.L {
+		product := new(big.Int).Mul(big.NewInt(m.By), big.NewInt(int64(ext[slices.Index(names, m.Name)]-1)))
+		to := high
+		if m.By < 0 {
+			to = low
+		}
+		to.Add(to, product)
+		if !product.IsInt64() || !to.IsInt64() {
+			return 0, 0, api.ErrRange
+		}
+	}
+	return low.Int64(), high.Int64(), api.OK
+}
+
+func TestRangeOverflow(t *testing.T) {
+	names := []string{"i", "j"}
+	var numbers []int64
+	for k := range 63 {
+		numbers = append(numbers, 1<<k, -1<<k, 3<<k, -3<<k, 5<<k-1, 1-5<<k)
+	}
+	numbers = append(numbers, 0, math.MaxInt64, math.MinInt64, math.MinInt64+1)
+	constants := []int64{0, 1, -1, 1 << 62, -1 << 62, math.MaxInt64, math.MinInt64}
+	seen := map[api.Errno]int{}
+	for _, a := range numbers {
+		for _, k := range constants {
+			for _, b := range []int64{0, 1, -1, math.MaxInt64, math.MinInt64} {
+				for _, ext := range [][]int{{1, 1}, {2, 2}, {3, 1}, {4, 2}, {5, 3}, {257, 1}, {65536, 1}} {
+					f := api.Lin{K: k}
+					for i, by := range []int64{a, b} {
+						if by != 0 {
+							f.L = append(f.L, api.Mono{Name: names[i], By: by})
+						}
+					}
+					low, high, err := exactRange(f, names, ext)
+					seen[err]++
+					if l, h, e := box.Range(f, names, ext); l != low || h != high || e != err {
+						t.Fatalf("Range(%v, %v) = %d, %d, %v; want %d, %d, %v", f, ext, l, h, e, low, high, err)
+					}
+				}
+			}
+		}
+	}
+	if seen[api.OK] < 1000 || seen[api.ErrRange] < 1000 {
+		t.Error(seen)
 	}
 }

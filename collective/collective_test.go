@@ -141,7 +141,7 @@ func TestPlan(t *testing.T) {
 		from, to api.Spec
 		want     []api.Transfer
 	}{
-		{api.Spec{0, -1}, api.Spec{-1, 0}, []api.Transfer{tr(a, 0, 0, 1)}}, {api.Spec{0}, api.Spec{-1}, []api.Transfer{tr(g, 0, 0, 0)}}, {api.Spec{-1}, api.Spec{0}, []api.Transfer{tr(s, 0, 0, 0)}}, {api.Spec{0, 1}, api.Spec{1, 0}, []api.Transfer{tr(g, 0, 0, 0), tr(g, 1, 1, 1), tr(s, 1, 0, 0), tr(s, 0, 1, 1)}}, {api.Spec{0, 1, -1}, api.Spec{-1, 0, 1}, []api.Transfer{tr(g, 0, 0, 0), tr(a, 1, 1, 2), tr(s, 0, 1, 1)}}, {api.Spec{0, -1}, api.Spec{2, 0}, []api.Transfer{tr(a, 0, 0, 1), tr(s, 2, 0, 0)}}, {api.Spec{0, 1}, api.Spec{0, 1}, nil}, {nil, nil, nil},
+		{api.Spec{0, -1}, api.Spec{-1, 0}, []api.Transfer{tr(a, 0, 0, 1)}}, {api.Spec{-1, 0}, api.Spec{0, -1}, []api.Transfer{tr(a, 0, 1, 0)}}, {api.Spec{0}, api.Spec{-1}, []api.Transfer{tr(g, 0, 0, 0)}}, {api.Spec{-1}, api.Spec{0}, []api.Transfer{tr(s, 0, 0, 0)}}, {api.Spec{0, 1}, api.Spec{1, 0}, []api.Transfer{tr(g, 0, 0, 0), tr(g, 1, 1, 1), tr(s, 1, 0, 0), tr(s, 0, 1, 1)}}, {api.Spec{0, 1, -1}, api.Spec{-1, 0, 1}, []api.Transfer{tr(g, 0, 0, 0), tr(a, 1, 1, 2), tr(s, 0, 1, 1)}}, {api.Spec{0, -1}, api.Spec{2, 0}, []api.Transfer{tr(a, 0, 0, 1), tr(s, 2, 0, 0)}}, {api.Spec{0, 1}, api.Spec{0, 1}, nil}, {nil, nil, nil},
 		{api.Spec{0}, api.Spec{0, -1}, nil}, {api.Spec{0, 0}, api.Spec{-1, -1}, nil}, {api.Spec{0, 1}, api.Spec{2, 2}, nil}, {api.Spec{-2}, api.Spec{0}, nil}, {api.Spec{0}, api.Spec{-2}, nil},
 	} {
 		if got := collective.Plan(x.from, x.to); !slices.Equal(got, x.want) {

@@ -4,6 +4,8 @@ import (
 	"math"
 	"math/big"
 	"slices"
+	"strconv"
+	"strings"
 	"testing"
 
 	"brocade/api"
@@ -241,6 +243,34 @@ func TestInfeasible(t *testing.T) {
 	}
 	if found < 500 {
 		t.Errorf("only %d systems had no solution", found)
+	}
+}
+
+// TestManyConstraints puts as many constraints into a system as there may be.
+func TestManyConstraints(t *testing.T) {
+	full := slices.Repeat([]api.Constraint{ge(1, "j", 1)}, api.MaxConstraints)
+	if got, err := elim.Eliminate(full, "i"); len(got) != api.MaxConstraints || err != api.OK {
+		t.Error(len(got), err)
+	}
+	if by, found, err := elim.Infeasible(full, 0); by != nil || found || err != api.OK {
+		t.Error(by, found, err)
+	}
+	// v0 <= v1 <= .. <= v0 has a solution, v0 < v1 <= .. <= v0 has none.
+	for _, many := range []int{2, 63, 64, 65, 128, 129, 200} {
+		for gap := range int64(2) {
+			var l []api.Constraint
+			for i := range many {
+				a, b := "v"+strconv.Itoa(i), "v"+strconv.Itoa((i+1)%many)
+				c := api.Constraint{Lin: api.Lin{L: []api.Mono{{Name: a, By: -1}, {Name: b, By: 1}}}}
+				slices.SortFunc(c.Lin.L, func(x, y api.Mono) int { return strings.Compare(x.Name, y.Name) })
+				l = append(l, c)
+			}
+			l[0].Lin.K = -gap
+			by, found, err := elim.Infeasible(l, api.MaxSteps)
+			if found != (gap > 0) || err != api.OK || found && elim.CheckCertificate(l, by) != api.OK {
+				t.Errorf("%d variables, gap %d: %v, %v", many, gap, found, err)
+			}
+		}
 	}
 }
 

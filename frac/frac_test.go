@@ -172,7 +172,7 @@ func TestSum(t *testing.T) {
 		got, err := frac.Sum(l...)
 		check(t, "Sum", got, err, exact)
 	}
-	for _, l := range [][]api.Val{{v(top, 1), v(1, 1)}, {v(-top, 1), v(-1, 2)}, {v(top, 1), v(top, 1), v(top, 1)}, {v(1, 2147483629), v(1, 2147483587)}, {v(top, 1), v(1, 2), v(-1, 3)}} {
+	for _, l := range [][]api.Val{{v(top, 1), v(1, 1)}, {v(-top, 1), v(-1, 2)}, {v(top, 1), v(top, 1), v(top, 1)}, {v(1, 2147483629), v(1, 2147483587)}, {v(top, 1), v(1, 2), v(-1, 3)}, {v(top, 1), v(top, 1), v(top, 1), v(top, 1), v(top, 1), v(top, 1), v(top, 1), v(top, 1), v(8, 1), v(1, 1<<30)}} {
 		if got, err := frac.Sum(l...); got != (api.Val{}) || err != api.ErrRange {
 			t.Errorf("Sum(%v) = %v, %v", l, got, err)
 		}

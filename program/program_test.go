@@ -91,7 +91,7 @@ func TestLimits(t *testing.T) {
 		t.Error(at, err)
 	}
 	six := "1, 1, 1, 1, 1, 1"
-	for text, want := range map[string]api.Errno{"in a: frac[" + six + "];": api.OK, "in a: frac[" + six + ", 1];": api.ErrRank, "def s: int[a < 1, b < 1, c < 1, d < 1, e < 1, f < 1] = int(1);": api.OK, "def s: int[a < 1, b < 1, c < 1, d < 1, e < 1, f < 1, g < 1] = int(1);": api.ErrRank} {
+	for text, want := range map[string]api.Errno{"in a: frac[" + six + "];": api.OK, "in a: frac[" + six + ", 1];": api.ErrRank, "def s: int[a < 1, b < 1, c < 1, d < 1, e < 1, f < 1] = int(1);": api.OK, "def s: int[] = sum a < 1, b < 1, c < 1, d < 1, e < 1, f < 1: int(1);": api.OK, "def s: int[] = sum a < 1, b < 1, c < 1, d < 1, e < 1, f < 1, g < 1: int(1);": api.ErrRank, "def s: int[a < 1, b < 1, c < 1, d < 1, e < 1, f < 1, g < 1] = int(1);": api.ErrRank} {
 		if _, err := program.Validate(parse(t, text)); err != want {
 			t.Errorf("%q: %v", text, err)
 		}

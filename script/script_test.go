@@ -148,6 +148,9 @@ func TestRun(t *testing.T) {
 		t.Error(out, failed, err)
 	}
 	show := script.Item{Op: 7, Name: "p"}
+	if out, failed, err := script.RunItems(slices.Repeat([]script.Item{show}, 256)); out != strings.Repeat("show p error 9\n", 256) || failed != 256 || err != api.OK {
+		t.Error(out, failed, err)
+	}
 	for at, l := range [][]script.Item{{{Op: 9, Name: "p"}}, {show, {Op: 7}, {}}, {show, show, {}}} {
 		if out, first, err := script.RunItems(l); out != "" || first != at || err != api.ErrSyntax {
 			t.Errorf("item %d is invalid, but: %q, %d, %v", at, out, first, err)
