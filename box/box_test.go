@@ -149,7 +149,7 @@ func TestRange(t *testing.T) {
 		err       api.Errno
 	}{
 		{form(1, "i", 2, "j", -1), ij, []int{2, 4}, -2, 3, 0}, {form(1, "i", 2, "j", -1), ij, []int{3, 4}, -2, 5, 0}, {form(7), nil, nil, 7, 7, 0}, {form(0, "i", 3), []string{"i", "i"}, []int{2, 5}, 0, 3, 0},
-		{form(0, "i", 0), ij, []int{-1, 2}, 0, 0, api.ErrArg}, {form(0, "i", 1), ij, []int{65537, -1}, 0, 0, api.ErrArg}, {form(0, "q", 1), nil, []int{65537}, 0, 0, api.ErrLimit}, {form(0, "q", 1), ij, []int{2}, 0, 0, api.ErrArg}, {form(0, "q", 1), ij, []int{2, 0}, 0, 0, api.ErrArg}, {form(0, "q", 1), ij, []int{2, 2}, 0, 0, api.ErrNotFound},
+		{form(0, "i", 0), ij, []int{-1, 2}, 0, 0, api.ErrArg}, {form(0, "i", 0), ij, []int{2, 2}, 0, 0, api.ErrArg}, {form(0, "i", 0), ij, []int{65537, 2}, 0, 0, api.ErrArg}, {form(0, "i", 1), ij, []int{65537, -1}, 0, 0, api.ErrArg}, {form(0, "q", 1), nil, []int{65537}, 0, 0, api.ErrLimit}, {form(0, "q", 1), ij, []int{2}, 0, 0, api.ErrArg}, {form(0, "q", 1), ij, []int{2, 0}, 0, 0, api.ErrArg}, {form(0, "q", 1), ij, []int{2, 2}, 0, 0, api.ErrNotFound},
 		{form(math.MaxInt64, "i", 1), ij, []int{2, 2}, 0, 0, api.ErrRange}, {form(math.MinInt64, "i", -1), ij, []int{2, 2}, 0, 0, api.ErrRange}, {form(math.MaxInt64, "i", 1), ij, []int{1, 2}, math.MaxInt64, math.MaxInt64, 0}, {form(0, "i", math.MaxInt64), ij, []int{3, 2}, 0, 0, api.ErrRange}, {form(-5, "i", math.MaxInt64), ij, []int{2, 2}, -5, math.MaxInt64 - 5, 0},
 		{form(0, "i", math.MinInt64), ij, []int{2, 2}, math.MinInt64, 0, 0}, {form(1, "i", math.MinInt64), ij, []int{3, 2}, 0, 0, api.ErrRange}, {form(math.MaxInt64, "i", -1, "j", 1), ij, []int{2, 2}, 0, 0, api.ErrRange}, {form(3, "i", math.MinInt64), ij, []int{1, 2}, 3, 3, 0},
 		{form(0, "i", math.MinInt64/2), ij, []int{3, 2}, math.MinInt64, 0, 0},

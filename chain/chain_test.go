@@ -98,6 +98,16 @@ func TestErrors(t *testing.T) {
 			t.Errorf("a plan of %d actions: %v", len(l), err)
 		}
 	}
+	great := vec("2147483647 1")
+	for steps, code := range map[int]api.Errno{0: api.OK, 1: api.ErrRange, 3: api.ErrRange} {
+		if x, err := chain.Run(p, bind(2), great, steps); err != code || code != api.OK && !isZero(x) {
+			t.Errorf("%d steps from a great number: %v, %v", steps, x, err)
+		}
+	}
+	bound := parse(t, "size n; where 0 <= n - 3; in x: frac[n]; def y: frac[i < n] = x[i]; out y;")
+	if _, err := chain.Run(bound, bind(2), good, 1); err != api.ErrConstraint {
+		t.Error(err)
+	}
 	rigid := parse(t, "in x: frac[2]; def y: frac[i < 2] = prod j < 2: x[j]; out y;")
 	if _, err := chain.Pullback(rigid, nil, good, good); err != api.ErrGradient {
 		t.Error(err)

@@ -81,7 +81,7 @@ func TestProg(t *testing.T) {
 		s    string
 		n, m int64
 		err  api.Errno
-	}{{"out q;", 0, 0, api.ErrNotFound}, {"out a;", 0, 0, api.ErrSize}, {"in b: int[n - 1]; out a;", 1, 1, api.ErrArg}, {"in b: int[n - 1]; def s: int[i < n - 2] = int(1);", 1, 1, api.ErrSize}, {"def s: frac[i < n] = a[i, 0]; def s_i: int[] = int(1);", 1, 1, api.ErrDuplicate}, {"def s: frac[i_j < n] = a[0, 0]; def s_i: frac[j < n] = a[0, 0];", 1, 1, api.ErrDuplicate}, {"def x: int[] = int(1) / int(0); def abcdefghijklmno: int[i < n] = int(1);", 1, 1, api.ErrName}} {
+	}{{"out q;", 0, 0, api.ErrNotFound}, {"out a;", 0, 0, api.ErrSize}, {"in b: int[n - 1];", 1, 1, api.ErrSize}, {"in b: int[n - 1]; out a;", 1, 1, api.ErrArg}, {"in b: int[n - 1]; def s: int[i < n - 2] = int(1);", 1, 1, api.ErrSize}, {"def s: frac[i < n] = a[i, 0]; def s_i: int[] = int(1);", 1, 1, api.ErrDuplicate}, {"def s: frac[i_j < n] = a[0, 0]; def s_i: frac[j < n] = a[0, 0];", 1, 1, api.ErrDuplicate}, {"def x: int[] = int(1) / int(0); def abcdefghijklmno: int[i < n] = int(1);", 1, 1, api.ErrName}} {
 		if n, err := lower.Prog(parse(t, head+x.s), bind(x.n, x.m)); err != x.err || !loopnest.Same(n, api.Nest{}) {
 			t.Errorf("Prog(%q) = %s, %v; want %v", x.s, flat(n), err, x.err)
 		}

@@ -1,6 +1,6 @@
-// Package sharing_test holds rule 7 for the functions of all layers: what is handed in is
+// Package rules_test holds rules for the functions of all layers: what is handed in is
 // not changed, and an answer shares no memory with it or within itself.
-package sharing_test
+package rules_test
 
 import (
 	"fmt"
