@@ -71,7 +71,7 @@ func TestUnreachable(t *testing.T) {
 		l    []api.Instr
 		want []int
 	}{
-		{nil, nil}, {unit(t, "jump 2; halt; jump 3; halt").Code, []int{1}}, {unit(t, "jlt 3 x0 x1; halt; int x0 1; test eq 5 r0 r1 int; halt; halt; jump 2").Code, []int{2, 6}}, {[]api.Instr{{Op: api.IJump, A: -5}, {Op: 99}, {Op: api.IJump, A: 99}}, []int{1, 2}}, {[]api.Instr{{Op: 99}, {Op: api.IJLt, A: 77}, {Op: -1}}, nil},
+		{nil, nil}, {unit(t, "jump 2; halt; jump 3; halt").Code, []int{1}}, {unit(t, "move x3 x1; halt; halt; halt").Code, []int{2, 3}}, {unit(t, "int x2 5; halt; halt").Code, []int{2}}, {unit(t, "jlt 3 x0 x1; halt; int x0 1; test eq 5 r0 r1 int; halt; halt; jump 2").Code, []int{2, 6}}, {[]api.Instr{{Op: api.IJump, A: -5}, {Op: 99}, {Op: api.IJump, A: 99}}, []int{1, 2}}, {[]api.Instr{{Op: 99}, {Op: api.IJLt, A: 77}, {Op: -1}}, nil},
 	} {
 		if got := peephole.Unreachable(x.l); !slices.Equal(got, x.want) {
 			t.Errorf("Unreachable(%v) = %v", x.l, got)
